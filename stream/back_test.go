@@ -25,8 +25,7 @@ func TestBackByHand(t *testing.T) {
 		`[[0],1] [[0]] [[],5] [["a"],2] [["a"]]`:                      `[1] 5 {"a":2}`,
 		`[[0,"a",0],1] [[0,"a",0]] [[0,"a"]] [[0]]`:                   `[{"a":[1]}]`,
 		`[[0],[]] [[1],{}] [[1]]`:                                     `[[],{}]`,
-		`[[-0],1] [[0]]`:                                              `[1]`,
-		`[[0],1] [[-0]]`:                                              `[1]`,
+		`[[],-0] [[0],-0] [[0]]`:                                      `-0 [-0]`,
 		`[["0"],1] [["0"]]`:                                           `{"0":1}`,
 		`[["a"],1] [["a"],2] [["a"]]`:                                 `{"a":2}`,
 		`[["a"],1] [["b"],2] [["a"],3] [["a"]]`:                       `{"a":3,"b":2}`,
@@ -65,6 +64,9 @@ func TestBackRefuses(t *testing.T) {
 		`[[1],1]`, `[[-1],1]`, `[[0.5],1]`, `[[1e300],1]`, `[[0,1],1]`, `[["a",1],1]`, `[[0],1] [[0],1]`, `[[0],1] [[2],1]`, `[[0],1] [[0.5],1]`, `[[0],1] [[1.5],1]`, `[[0],1] [[-1],1]`,
 		`[[0],1] [[1,1],1]`, `[[0],1] [["a"],1]`, `[["a"],1] [[0],1]`, `[["a"],1] [[1],1]`, `[["a",0],1] [["a","b"],1]`, `[["a","b"],1] [["a",0],1]`, `[["a","b"],1] [["a",1],1]`,
 		`[[0],1] [["1"],1]`, `[["0"],1] [[1],1]`,
+		// Noughts with a sign, which are no places.
+		`[[-0],null]`, `[[-0],1] [[-0]]`, `[[-0],1] [[0]]`, `[[0],1] [[-0]]`, `[[-0],[]]`, `[[0,-0],1]`, `[[-0,0],1]`, `[["a",-0],1]`, `[[-0,"a"],1]`,
+		`[[0,0],1] [[-0,1],1]`, `[[0,0],1] [[0,-0]]`, `[[0,0],1] [[-0,0]]`, `[[0,0],1] [[0,0]] [[-0]]`, `[[0],1] [[1],1] [[-0]]`, `[["a"],1] [[-0]]`, `[["a"],1] [[-0],1]`,
 		// Paths that leave what is open.
 		`[[0],1] [[],1]`, `[[0,0],1] [[1],1]`, `[[0,0],1] [[0],1]`, `[[0,0],1] [[],1]`, `[[0,0],1] [[1,0],1]`, `[[0,0],1] [[1,1],1]`, `[["a","b"],1] [["b","b"],1]`, `[["a","b"],1] [["c"],1]`,
 		`[["a",0],1] [["b",1],1]`, `[["a",0],1] [["a"],1]`, `[[0,0],1] [[0,0]] [[0,1],1]`, `[[0,0],1] [[0,0]] [[],1]`, `[[0,0,0],1] [[1,0,1],1]`, `[[0,0,0],1] [[0,1,1],1]`,
@@ -261,6 +263,40 @@ func turn(r *rand.Rand, l []api.Value) {
 		e.List = append(e.List, somewhat(r, 1))
 	case 7:
 		e.List = e.List[:len(e.List)-1]
+	}
+}
+
+// TestBackTellsNoughtsApart has rows of events that are good, and turns each 0 of a path, one at a time, into -0.
+func TestBackTellsNoughtsApart(t *testing.T) {
+	r := rand.New(rand.NewSource(65))
+	turned := 0
+	for range 5000 {
+		var l []api.Value
+		for range 1 + r.Intn(2) {
+			l = append(l, someTree(r, 4).events()...)
+		}
+		l = apartRow(l[:r.Intn(len(l)+1)])
+		if _, e := stream.Back(l); e != api.OK {
+			t.Fatalf("Back(%s): %d", shown(l...), e)
+		}
+		for _, e := range l {
+			path := e.List[0].List
+			for i, key := range path {
+				if !same(key, num(0)) {
+					continue
+				}
+				path[i] = minus
+				if got, e := stream.Back(l); e != 60 || len(got) != 0 {
+					t.Fatalf("Back(%s) = %s, %d", shown(l...), shown(got...), e)
+				}
+				checkBack(t, l)
+				path[i] = key
+				turned++
+			}
+		}
+	}
+	if turned < 5000 {
+		t.Error("only", turned, "noughts were turned")
 	}
 }
 

@@ -1,6 +1,7 @@
 package stream
 
 import (
+	"math"
 	"strings"
 
 	"colander/api"
@@ -74,8 +75,9 @@ func (b *builder) isUnder(path []api.Value) bool {
 	return true
 }
 
+// sameKey tells whether two keys are one. Numbers are told to the bit, as no part of a value has the key -0.
 func sameKey(a, b api.Value) bool {
-	return a.Kind == b.Kind && a.Num == b.Num && a.Str == b.Str
+	return a.Kind == b.Kind && math.Float64bits(a.Num) == math.Float64bits(b.Num) && a.Str == b.Str
 }
 
 // put puts a value where the path of the event leads.

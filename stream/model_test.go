@@ -385,7 +385,7 @@ func (m *model) next(ahead []api.Value) ([]api.Value, api.Value, bool) {
 	}
 	e := m.l[m.at].List
 	path := e[0].List
-	m.bad = len(path) < len(ahead) || !value.Equal(arr(path[:min(len(path), len(ahead))]...), arr(ahead...))
+	m.bad = len(path) < len(ahead) || !sameRow(path[:len(ahead)], ahead)
 	if len(e) == 1 {
 		return path, null, false
 	}
@@ -407,7 +407,7 @@ func (m *model) tree(here []api.Value) tree {
 	kind := path[len(here)].Kind
 	for {
 		key := path[len(here)]
-		if key.Kind != kind || kind == api.Number && key.Num != float64(len(out.parts)) {
+		if key.Kind != kind || kind == api.Number && !same(key, num(float64(len(out.parts)))) {
 			m.bad = true
 			return out
 		}
@@ -421,7 +421,7 @@ func (m *model) tree(here []api.Value) tree {
 		if m.bad || m.done {
 			return out
 		}
-		if !isLeaf && value.Equal(arr(path...), arr(below...)) {
+		if !isLeaf && sameRow(path, below) {
 			m.at++
 			return out
 		}
