@@ -5,6 +5,7 @@ import (
 	"slices"
 	"strings"
 
+	"colander/answer"
 	"colander/api"
 	"colander/value"
 )
@@ -17,10 +18,10 @@ type setter func(v, key, x api.Value) (api.Value, api.Err)
 // setSmall puts x at key, unless what comes of that is too large.
 func setSmall(v, key, x api.Value) (api.Value, api.Err) {
 	out, err := setAny(v, key, x)
-	if !err.Is && value.Large(out) {
-		return api.Value{}, tooLarge()
+	if err.Is {
+		return api.Value{}, err
 	}
-	return out, err
+	return answer.Small(out)
 }
 
 // setAny puts x at key, however large that gets.
@@ -63,10 +64,10 @@ func setField(v api.Value, key string, x api.Value) api.Value {
 func setPlace(v api.Value, at float64, x api.Value) (api.Value, api.Err) {
 	const places = 65536
 	if at < 0 {
-		return api.Value{}, failure("Out of bounds negative array index")
+		return api.Value{}, answer.Failure("Out of bounds negative array index")
 	}
 	if math.IsNaN(at) || at >= places {
-		return api.Value{}, failure("Array index too large")
+		return api.Value{}, answer.Failure("Array index too large")
 	}
 	if missing := int(at) + 1 - len(v.List); missing > 0 {
 		v.List = append(v.List, make([]api.Value, missing)...)
@@ -77,7 +78,7 @@ func setPlace(v api.Value, at float64, x api.Value) (api.Value, api.Err) {
 
 func setSlice(v, key, x api.Value) (api.Value, api.Err) {
 	if x.Kind != api.Array {
-		return api.Value{}, failure("A slice of an array can only be assigned another array")
+		return api.Value{}, answer.Failure("A slice of an array can only be assigned another array")
 	}
 	from, to := ends(key)
 	first, end, err := bounds(from, to, len(v.List))
@@ -111,9 +112,9 @@ func remove(v, key api.Value) (api.Value, api.Err) {
 		v.List = slices.Delete(v.List, first, end)
 		return v, api.Err{}
 	case kinds{api.Array, api.String}:
-		return api.Value{}, failure("Cannot delete field at object index of array")
+		return api.Value{}, answer.Failure("Cannot delete field at object index of array")
 	case kinds{api.Object, api.Number}:
-		return api.Value{}, failure("Cannot delete field at array index of object")
+		return api.Value{}, answer.Failure("Cannot delete field at array index of object")
 	}
-	return api.Value{}, failure("Cannot delete fields from " + value.Name(v))
+	return api.Value{}, answer.Failure("Cannot delete fields from " + value.Name(v))
 }

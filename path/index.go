@@ -5,7 +5,9 @@ import (
 	"slices"
 	"strings"
 
+	"colander/answer"
 	"colander/api"
+	"colander/rows"
 	"colander/runes"
 	"colander/value"
 )
@@ -29,7 +31,7 @@ func index(v, key api.Value) (api.Value, api.Err) {
 		from, to := ends(key)
 		return slice(v, from, to)
 	case kinds{api.Array, api.Array}:
-		return places(key.List, v.List)
+		return answer.Numbers(rows.Places(v.List, key.List))
 	}
 	return api.Value{}, noIndex(v, key)
 }
@@ -88,7 +90,7 @@ func slice(v, from, to api.Value) (api.Value, api.Err) {
 		}
 		return api.Value{Kind: api.String, Str: runes.Slice(v.Str, first, end)}, api.Err{}
 	}
-	return api.Value{}, failure("Cannot index " + value.Name(v) + " with object")
+	return api.Value{}, answer.Failure("Cannot index " + value.Name(v) + " with object")
 }
 
 // ends are the two ends of the slice that a key tells.
@@ -99,7 +101,7 @@ func ends(key api.Value) (api.Value, api.Value) {
 // bounds answers the first place of a slice of n values, and that just behind its last one, which is never below the first one.
 func bounds(from, to api.Value, n int) (int, int, api.Err) {
 	if !isEnd(from) || !isEnd(to) {
-		return 0, 0, failure("Start and end indices of an array slice must be numbers")
+		return 0, 0, answer.Failure("Start and end indices of an array slice must be numbers")
 	}
 	first := bound(from, math.Floor, 0, n)
 	return first, max(first, bound(to, math.Ceil, n, n)), api.Err{}
@@ -122,17 +124,7 @@ func keyAt(v api.Value, i int) api.Value {
 	if v.Kind == api.Object {
 		return api.Value{Kind: api.String, Str: strings.Clone(v.Keys[i])}
 	}
-	return numberOf(i)
-}
-
-func numberOf(n int) api.Value {
-	return api.Value{Kind: api.Number, Num: float64(n)}
-}
-
-// own answers v in memory of its own: null and v added are v, and what layer 3 answers is new memory.
-func own(v api.Value) api.Value {
-	out, _ := value.Operate("+", api.Value{}, v)
-	return out
+	return answer.Number(i)
 }
 
 // noIndex tells that a key leads nowhere in v.
@@ -141,13 +133,5 @@ func noIndex(v, key api.Value) api.Err {
 	if key.Kind == api.String {
 		name = `"` + key.Str + `"`
 	}
-	return failure("Cannot index " + value.Name(v) + " with " + name)
-}
-
-func tooLarge() api.Err {
-	return failure("value is too large")
-}
-
-func failure(text string) api.Err {
-	return api.Err{Is: true, V: api.Value{Kind: api.String, Str: text}}
+	return answer.Failure("Cannot index " + value.Name(v) + " with " + name)
 }

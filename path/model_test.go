@@ -3,13 +3,21 @@ package path_test
 import (
 	"math"
 	"math/rand"
-	"strings"
 	"testing"
 	"unsafe"
 
 	"colander/api"
-	"colander/reader"
+	"colander/sample"
 	"colander/value"
+)
+
+// What the tests of several packages have in common.
+var (
+	num, str, arr, obj         = sample.Num, sample.Str, sample.Arr, sample.Obj
+	vals, val                  = sample.All, sample.One
+	many, counted, nested      = sample.Many, sample.Counted, sample.Nested
+	same, sameRow, shown       = sample.Same, sample.SameRow, sample.Shown
+	apart, apartRow, untouched = sample.Apart, sample.ApartRow, sample.Untouched
 )
 
 // How the tests make values.
@@ -22,59 +30,11 @@ var (
 	inf   = num(math.Inf(1))
 )
 
-func num(f float64) api.Value { return api.Value{Kind: api.Number, Num: f} }
-
-func str(s string) api.Value { return api.Value{Kind: api.String, Str: s} }
-
-func arr(l ...api.Value) api.Value { return api.Value{Kind: api.Array, List: l} }
-
-// obj answers an object of keys, parted by blanks, and their values.
-func obj(keys string, l ...api.Value) api.Value {
-	return api.Value{Kind: api.Object, List: l, Keys: strings.Fields(keys)}
-}
-
 // part is the key of a slice.
 func part(from, to api.Value) api.Value { return obj("start end", from, to) }
 
-// vals answers the values that a text writes: nan is one, and 1e1000 is infinite.
-func vals(text string) []api.Value {
-	l, f := reader.All(text)
-	if f != (api.Fault{}) {
-		panic(text)
-	}
-	return l
-}
-
-func val(text string) api.Value { return vals(text)[0] }
-
 // steps answers the path that an array's text writes.
 func steps(text string) []api.Value { return val(text).List }
-
-// many answers an array of n times the same value.
-func many(v api.Value, n int) api.Value {
-	out := arr(make([]api.Value, n)...)
-	for i := range out.List {
-		out.List[i] = v
-	}
-	return out
-}
-
-// counted answers the array of 0, 1, .. below n.
-func counted(n int) api.Value {
-	out := many(null, n)
-	for i := range out.List {
-		out.List[i] = num(float64(i))
-	}
-	return out
-}
-
-// nested answers v within n arrays.
-func nested(v api.Value, n int) api.Value {
-	for range n {
-		v = arr(v)
-	}
-	return v
-}
 
 // samples are values of all kinds, the edges among them.
 func samples() []api.Value {
@@ -177,114 +137,20 @@ func somePath(r *rand.Rand, v api.Value, most int) []api.Value {
 
 // How the tests hold values against each other.
 
-// same tells whether two values are the same in all their fields, to the bit, but for which NaN it is.
-func same(a, b api.Value) bool {
-	if a.Kind != b.Kind || a.Str != b.Str || strings.Join(a.Keys, "\x00") != strings.Join(b.Keys, "\x00") || len(a.Keys) != len(b.Keys) {
-		return false
-	}
-	if math.Float64bits(a.Num) != math.Float64bits(b.Num) && (a.Num == a.Num || b.Num == b.Num) {
-		return false
-	}
-	return sameRow(a.List, b.List)
-}
-
-func sameRow(a, b []api.Value) bool {
-	for i := range min(len(a), len(b)) {
-		if !same(a[i], b[i]) {
-			return false
-		}
-	}
-	return len(a) == len(b)
-}
-
-// shown writes values for people, so much of them as can be looked at.
-func shown(l ...api.Value) string {
-	text := value.Text(arr(l...))
-	if len(text) > 600 {
-		text = text[:600] + ".."
-	}
-	return text
-}
-
 // checkOutcome holds an answer against a value, or against why there is none, if complaint is not empty.
 func checkOutcome(t *testing.T, call string, got api.Value, err api.Err, want api.Value, complaint string) {
 	t.Helper()
-	if complaint != "" {
-		want = null
-	}
-	if err.Is != (complaint != "") || err.Is && !same(err.V, str(complaint)) || !err.Is && !same(err.V, null) || !same(got, want) {
-		t.Fatalf("%s: %s, %v %s, want %s %q", call, shown(got), err.Is, shown(err.V), shown(want), complaint)
-	}
-}
-
-// apart answers v in memory of its own, each list with room behind its end.
-func apart(v api.Value) api.Value {
-	v.Str = strings.Clone(v.Str)
-	v.Keys = append(make([]string, 0, len(v.Keys)+2), v.Keys...)
-	for i := range v.Keys {
-		v.Keys[i] = strings.Clone(v.Keys[i])
-	}
-	v.List = apartRow(v.List)
-	return v
-}
-
-func apartRow(l []api.Value) []api.Value {
-	out := make([]api.Value, len(l), len(l)+2)
-	for i, x := range l {
-		out[i] = apart(x)
-	}
-	return out
-}
-
-// untouched tells whether the room behind all lists of what apart made is empty still.
-func untouched(v api.Value) bool {
-	for _, k := range v.Keys[len(v.Keys):cap(v.Keys)] {
-		if k != "" {
-			return false
-		}
-	}
-	if !sameRow(v.List[len(v.List):cap(v.List)], make([]api.Value, cap(v.List)-len(v.List))) {
-		return false
-	}
-	for _, x := range v.List {
-		if !untouched(x) {
-			return false
-		}
-	}
-	return true
-}
-
-// memory counts in seen how often lists stand at each address, room behind their ends and all, and tells of texts where they are.
-func memory(v api.Value, seen map[any]int) {
-	for i := range v.List[:cap(v.List)] {
-		seen[&v.List[:cap(v.List)][i]]++
-	}
-	for i := range v.Keys[:cap(v.Keys)] {
-		seen[&v.Keys[:cap(v.Keys)][i]]++
-	}
-	for _, s := range append([]string{v.Str}, v.Keys...) {
-		if s != "" {
-			seen[unsafe.StringData(s)] = 1
-		}
-	}
-	for _, x := range v.List {
-		memory(x, seen)
+	if wrong := sample.Wrong(got, err, want, complaint); wrong != "" {
+		t.Fatalf("%s %s", call, wrong)
 	}
 }
 
 // checkOwn holds that an answer shares nothing with what was handed in, nor within itself.
 func checkOwn(t *testing.T, call string, answer []api.Value, args ...api.Value) {
 	t.Helper()
-	seen, handed := map[any]int{}, map[any]int{}
-	memory(arr(answer...), seen)
-	memory(arr(args...), handed)
-	for p, n := range seen {
-		if n > 1 {
-			t.Fatalf("%s: parts of the answer share memory", call)
-		}
-		if handed[p] > 0 {
-			t.Fatalf("%s: the answer shares memory with an argument", call)
-		}
+	wrong := sample.Shared(answer, args, func(text string) any { return unsafe.StringData(text) })
+	if wrong != "" {
+		t.Fatalf("%s: %s", call, wrong)
 	}
 }
 

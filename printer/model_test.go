@@ -13,6 +13,15 @@ import (
 	"colander/api"
 	"colander/number"
 	"colander/printer"
+	"colander/sample"
+)
+
+// What the tests of several packages have in common.
+var (
+	num, str, arr, obj = sample.Num, sample.Str, sample.Arr, sample.Obj
+	many               = sample.Many
+	same               = sample.Same
+	apart              = sample.Apart
 )
 
 // How the tests make values.
@@ -26,21 +35,6 @@ var (
 	inf   = num(math.Inf(1))
 )
 
-func num(f float64) api.Value { return api.Value{Kind: api.Number, Num: f} }
-
-func str(s string) api.Value { return api.Value{Kind: api.String, Str: s} }
-
-func arr(l ...api.Value) api.Value { return api.Value{Kind: api.Array, List: l} }
-
-// obj answers an object of keys, parted by blanks (_ is the empty one), and their values.
-func obj(keys string, l ...api.Value) api.Value {
-	v := api.Value{Kind: api.Object, List: l}
-	for _, k := range strings.Fields(keys) {
-		v.Keys = append(v.Keys, strings.Replace(k, "_", "", 1))
-	}
-	return v
-}
-
 // nested answers v within n arrays, or objects, or both by turns.
 func nested(v api.Value, n int, arrays, objects bool) api.Value {
 	for i := range n {
@@ -51,15 +45,6 @@ func nested(v api.Value, n int, arrays, objects bool) api.Value {
 		}
 	}
 	return v
-}
-
-// many answers an array of n times the same value.
-func many(v api.Value, n int) api.Value {
-	out := arr()
-	for range n {
-		out.List = append(out.List, v)
-	}
-	return out
 }
 
 // samples are right values of all kinds, the edges among them.
@@ -128,23 +113,6 @@ func styles() []api.Style {
 }
 
 // How the tests hold values against each other.
-
-// same tells whether two values are the same in all fields, numbers by their bits, but any NaN as any other.
-func same(a, b api.Value) bool {
-	sameNum := a.Num != a.Num && b.Num != b.Num || math.Float64bits(a.Num) == math.Float64bits(b.Num)
-	return a.Kind == b.Kind && a.Str == b.Str && sameNum && slices.Equal(a.Keys, b.Keys) && slices.EqualFunc(a.List, b.List, same)
-}
-
-// apart answers v in memory of its own.
-func apart(v api.Value) api.Value {
-	v.Str = strings.Clone(v.Str)
-	v.Keys = slices.Clone(v.Keys)
-	v.List = slices.Clone(v.List)
-	for i, x := range v.List {
-		v.List[i] = apart(x)
-	}
-	return v
-}
 
 // cut answers a text, of a long one its beginning.
 func cut(s string) string {

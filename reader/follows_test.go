@@ -240,7 +240,7 @@ func libraryValue(d *json.Decoder) api.Value {
 // The rules: what is answered is new memory, and the same each time.
 
 func TestAnswersAreNew(t *testing.T) {
-	s := sample[:strings.Index(sample, " nan")+1] + `{"key":["string",{"other":"\u0041b"}]}`
+	s := mixed[:strings.Index(mixed, " nan")+1] + `{"key":["string",{"other":"\u0041b"}]}`
 	for range 2 {
 		l, _ := reader.All(s)
 		one, _, _, _ := reader.One(s, 0)

@@ -12,7 +12,14 @@ import (
 
 	"colander/api"
 	"colander/reader"
+	"colander/sample"
 	"colander/value"
+)
+
+// What the tests of several packages have in common.
+var (
+	num, str, arr, obj   = sample.Num, sample.Str, sample.Arr, sample.Obj
+	same, sameRow, shown = sample.Same, sample.SameRow, sample.Shown
 )
 
 // How the tests make values.
@@ -23,62 +30,6 @@ var (
 	yes  = api.Value{Kind: api.True}
 	nan  = num(math.NaN())
 )
-
-func num(f float64) api.Value { return api.Value{Kind: api.Number, Num: f} }
-
-func str(s string) api.Value { return api.Value{Kind: api.String, Str: s} }
-
-func arr(l ...api.Value) api.Value { return api.Value{Kind: api.Array, List: l} }
-
-// obj answers an object of keys, parted by blanks (_ is the empty one), and their values.
-func obj(keys string, l ...api.Value) api.Value {
-	v := api.Value{Kind: api.Object, List: l}
-	for _, k := range strings.Fields(keys) {
-		v.Keys = append(v.Keys, strings.Replace(k, "_", "", 1))
-	}
-	return v
-}
-
-// same tells whether two values are the same in all their fields, to the bit, but for which NaN it is.
-func same(a, b api.Value) bool {
-	if a.Kind != b.Kind || a.Str != b.Str || len(a.Keys) != len(b.Keys) {
-		return false
-	}
-	if math.Float64bits(a.Num) != math.Float64bits(b.Num) && !(math.IsNaN(a.Num) && math.IsNaN(b.Num)) {
-		return false
-	}
-	for i := range a.Keys {
-		if a.Keys[i] != b.Keys[i] {
-			return false
-		}
-	}
-	return sameRow(a.List, b.List)
-}
-
-func sameRow(a, b []api.Value) bool {
-	if len(a) != len(b) {
-		return false
-	}
-	for i := range a {
-		if !same(a[i], b[i]) {
-			return false
-		}
-	}
-	return true
-}
-
-// shown writes values for people, so much of them as can be looked at.
-func shown(l ...api.Value) string {
-	var out []string
-	for _, v := range l {
-		s := value.Text(v)
-		if len(s) > 200 {
-			s = s[:200] + ".."
-		}
-		out = append(out, s)
-	}
-	return strings.Join(out, " ; ")
-}
 
 func cut(s string) string {
 	if len(s) > 200 {

@@ -115,19 +115,19 @@ func TestAllShortTexts(t *testing.T) {
 	})
 }
 
-const sample = "{\"a\":[1,-0.5e1,\"x\\u00e9\\n\xff\"],\n\"b\": {\"\":null,\"c\":[ ]},\"a\":{ }} \"\\ud83d\\ude00\"\nnan[true]"
+const mixed = "{\"a\":[1,-0.5e1,\"x\\u00e9\\n\xff\"],\n\"b\": {\"\":null,\"c\":[ ]},\"a\":{ }} \"\\ud83d\\ude00\"\nnan[true]"
 
 // TestEachByteInASample puts each byte in the place of, and ahead of, each of a text's, cuts it off at each, and leaves out each.
 func TestEachByteInASample(t *testing.T) {
-	checkPlaces(t, sample)
-	for i := range len(sample) {
-		ahead, rest := sample[:i], sample[i+1:]
+	checkPlaces(t, mixed)
+	for i := range len(mixed) {
+		ahead, rest := mixed[:i], mixed[i+1:]
 		checkPlaces(t, ahead)
 		checkPlaces(t, ahead+rest)
 		for b := range 256 {
 			c := string([]byte{byte(b)})
 			checkText(t, ahead+c+rest)
-			checkText(t, ahead+c+sample[i:])
+			checkText(t, ahead+c+mixed[i:])
 		}
 	}
 }

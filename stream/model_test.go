@@ -4,14 +4,22 @@ import (
 	"math"
 	"math/rand"
 	"regexp"
-	"strings"
 	"testing"
 	"unsafe"
 
 	"colander/api"
 	"colander/reader"
+	"colander/sample"
 	"colander/stream"
 	"colander/value"
+)
+
+// What the tests of several packages have in common.
+var (
+	num, str, arr, obj   = sample.Num, sample.Str, sample.Arr, sample.Obj
+	vals, val            = sample.All, sample.One
+	same, sameRow, shown = sample.Same, sample.SameRow, sample.Shown
+	apart, apartRow      = sample.Apart, sample.ApartRow
 )
 
 // How the tests make values.
@@ -24,34 +32,6 @@ var (
 	minus = num(math.Copysign(0, -1))
 	inf   = num(math.Inf(1))
 )
-
-func num(f float64) api.Value { return api.Value{Kind: api.Number, Num: f} }
-
-func str(s string) api.Value { return api.Value{Kind: api.String, Str: s} }
-
-func arr(l ...api.Value) api.Value { return api.Value{Kind: api.Array, List: l} }
-
-// obj answers an object of keys, parted by blanks (_ is the empty one), and their values.
-func obj(keys string, l ...api.Value) api.Value {
-	v := api.Value{Kind: api.Object, List: l}
-	for _, k := range strings.Fields(keys) {
-		v.Keys = append(v.Keys, strings.Replace(k, "_", "", 1))
-	}
-	return v
-}
-
-// vals answers the values that a text writes.
-func vals(text string) []api.Value {
-	l, f := reader.All(text)
-	if f != (api.Fault{}) {
-		panic(text)
-	}
-	return l
-}
-
-func val(text string) api.Value {
-	return vals(text)[0]
-}
 
 // nested answers v within n arrays and objects, as the pattern of a and o says, again and again.
 func nested(v api.Value, n int, pattern string) api.Value {
@@ -107,75 +87,11 @@ func somewhat(r *rand.Rand, levels int) api.Value {
 
 // How the tests hold values against each other.
 
-// same tells whether two values are the same in all their fields, to the bit, but for which NaN it is.
-func same(a, b api.Value) bool {
-	if a.Kind != b.Kind || a.Str != b.Str || len(a.Keys) != len(b.Keys) {
-		return false
-	}
-	if math.Float64bits(a.Num) != math.Float64bits(b.Num) && !(math.IsNaN(a.Num) && math.IsNaN(b.Num)) {
-		return false
-	}
-	for i := range a.Keys {
-		if a.Keys[i] != b.Keys[i] {
-			return false
-		}
-	}
-	return sameRow(a.List, b.List)
-}
-
-func sameRow(a, b []api.Value) bool {
-	if len(a) != len(b) {
-		return false
-	}
-	for i := range a {
-		if !same(a[i], b[i]) {
-			return false
-		}
-	}
-	return true
-}
-
-// shown writes values for people, so much of them as can be looked at.
-func shown(l ...api.Value) string {
-	var out []string
-	for i, v := range l {
-		if i == 20 {
-			out = append(out, "..")
-			break
-		}
-		s := value.Text(v)
-		if len(s) > 200 {
-			s = s[:200] + ".."
-		}
-		out = append(out, s)
-	}
-	return strings.Join(out, " ; ")
-}
-
 func cut(s string) string {
 	if len(s) > 200 {
 		return s[:100] + " .. " + s[len(s)-100:]
 	}
 	return s
-}
-
-// apart answers v in memory of its own, each list with room behind its end.
-func apart(v api.Value) api.Value {
-	v.Str = strings.Clone(v.Str)
-	v.Keys = append(make([]string, 0, len(v.Keys)+2), v.Keys...)
-	for i := range v.Keys {
-		v.Keys[i] = strings.Clone(v.Keys[i])
-	}
-	v.List = apartRow(v.List)
-	return v
-}
-
-func apartRow(l []api.Value) []api.Value {
-	out := make([]api.Value, len(l), len(l)+2)
-	for i, x := range l {
-		out[i] = apart(x)
-	}
-	return out
 }
 
 // spoil changes all that v's lists hold, and the room behind it.

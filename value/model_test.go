@@ -11,6 +11,14 @@ import (
 
 	"colander/api"
 	"colander/number"
+	"colander/sample"
+)
+
+// What the tests of several packages have in common.
+var (
+	num, str, arr, obj = sample.Num, sample.Str, sample.Arr, sample.Obj
+	same               = sample.Same
+	apart              = sample.Apart
 )
 
 // How the tests make values.
@@ -23,21 +31,6 @@ var (
 	minus = num(math.Copysign(0, -1))
 	inf   = num(math.Inf(1))
 )
-
-func num(f float64) api.Value { return api.Value{Kind: api.Number, Num: f} }
-
-func str(s string) api.Value { return api.Value{Kind: api.String, Str: s} }
-
-func arr(l ...api.Value) api.Value { return api.Value{Kind: api.Array, List: l} }
-
-// obj answers an object of keys, parted by blanks (_ is the empty one), and their values.
-func obj(keys string, l ...api.Value) api.Value {
-	v := api.Value{Kind: api.Object, List: l}
-	for _, k := range strings.Fields(keys) {
-		v.Keys = append(v.Keys, strings.Replace(k, "_", "", 1))
-	}
-	return v
-}
 
 // val answers the value that a JSON text writes, its keys in the order of the text.
 func val(text string) api.Value {
@@ -156,37 +149,8 @@ func someObject(r *rand.Rand, levels int) api.Value {
 
 // How the tests hold values against each other.
 
-// same tells whether two values are the same in all fields, numbers by their bits, but any NaN as any other.
-func same(a, b api.Value) bool {
-	if a.Kind != b.Kind || a.Str != b.Str || len(a.List) != len(b.List) || len(a.Keys) != len(b.Keys) || !sameNumber(a.Num, b.Num) {
-		return false
-	}
-	for i := range a.List {
-		if !same(a.List[i], b.List[i]) {
-			return false
-		}
-	}
-	for i := range a.Keys {
-		if a.Keys[i] != b.Keys[i] {
-			return false
-		}
-	}
-	return true
-}
-
 func sameNumber(a, b float64) bool {
 	return a != a && b != b || math.Float64bits(a) == math.Float64bits(b)
-}
-
-// apart answers v in memory of its own.
-func apart(v api.Value) api.Value {
-	v.Str = strings.Clone(v.Str)
-	v.Keys = append([]string(nil), v.Keys...)
-	v.List = append([]api.Value(nil), v.List...)
-	for i, x := range v.List {
-		v.List[i] = apart(x)
-	}
-	return v
 }
 
 // memory counts in seen how often lists begin at an address, and tells of texts where theirs are.

@@ -1,29 +1,27 @@
-package path
+// Package rows looks for rows of values within others.
+package rows
 
 import (
 	"colander/api"
 	"colander/value"
 )
 
-// places answers, as an array of numbers, where the values of part stand one behind the other in list. It goes through list once (Knuth, Morris, Pratt), so that no list, however it repeats itself, takes long. What it has found so far equals itself, as that way asks: nothing with NaN in it has been found.
-func places(part, list []api.Value) (api.Value, api.Err) {
-	out := api.Value{Kind: api.Array}
+// Places answers, rising, where the values of part stand one behind the other in list: none of an empty part. It goes through list once (Knuth, Morris, Pratt), so that no list, however it repeats itself, takes long. What it has found so far equals itself, as that way asks: nothing with NaN in it has been found.
+func Places(list, part []api.Value) []int {
 	if len(part) == 0 {
-		return out, api.Err{}
+		return nil
 	}
+	var out []int
 	back := borders(part)
 	same := 0 // how many values of part stand just ahead of here
 	for i, x := range list {
 		same = further(part, back, same, x)
 		if same == len(part) {
-			out.List = append(out.List, numberOf(i+1-same))
+			out = append(out, i+1-same)
 			same = back[same-1]
 		}
 	}
-	if value.Large(out) {
-		return api.Value{}, tooLarge()
-	}
-	return out, api.Err{}
+	return out
 }
 
 // borders tells of each beginning of part how long its longest shorter beginning is that is its end, too.

@@ -1,0 +1,113 @@
+package sample_test
+
+import (
+	"math"
+	"testing"
+	"unsafe"
+
+	"colander/api"
+	"colander/sample"
+	"colander/value"
+)
+
+func TestMaking(t *testing.T) {
+	for want, v := range map[string]api.Value{
+		`-1.5`:             sample.Num(-1.5),
+		`"é"`:              sample.Str("é"),
+		`[1,"a"]`:          sample.Arr(sample.Num(1), sample.Str("a")),
+		`{"a":1,"":2}`:     sample.Obj("a _", sample.Num(1), sample.Num(2)),
+		`true`:             sample.Bool(true),
+		`false`:            sample.Bool(false),
+		`{"b":[1],"a":{}}`: sample.One(`{"b":[1],"a":{}} 2`),
+		`[[],[]]`:          sample.Many(sample.Arr(), 2),
+		`[0,1,2]`:          sample.Counted(3),
+		`[[[7]]]`:          sample.Nested(sample.Num(7), 3),
+	} {
+		if value.Text(v) != want || !value.Right(v) {
+			t.Errorf("%s, want %s", value.Text(v), want)
+		}
+	}
+	if l := sample.All(`nan 1e1000 -0`); len(l) != 3 || l[0].Num == l[0].Num || !math.IsInf(l[1].Num, 1) || !math.Signbit(l[2].Num) {
+		t.Error("All:", value.Text(sample.Arr(l...)))
+	}
+	defer func() {
+		if recover() == nil {
+			t.Error("All takes what is no value")
+		}
+	}()
+	sample.All(`[`)
+}
+
+func TestSame(t *testing.T) {
+	all := sample.All(`null false true 0 -0 1 nan 1e1000 "" "a" [] [0] [-0] [nan] [1,2] [2,1] {} {"a":0} {"a":-0} {"b":0} {"a":0,"b":0} {"b":0,"a":0}`)
+	for i, a := range all {
+		for j, b := range all {
+			if sample.Same(a, b) != (i == j) || sample.SameRow([]api.Value{a}, []api.Value{b}) != (i == j) {
+				t.Error(value.Text(a), value.Text(b))
+			}
+		}
+	}
+	if !sample.Same(sample.Arr(), api.Value{Kind: api.Array, List: []api.Value{}}) || sample.SameRow(all, all[1:]) {
+		t.Error("Same of lists")
+	}
+}
+
+func TestWrong(t *testing.T) {
+	one, fault := sample.Num(1), api.Err{Is: true, V: sample.Str("bad")}
+	for _, x := range []struct {
+		got       api.Value
+		err       api.Err
+		complaint string
+		well      bool
+	}{
+		{one, api.Err{}, "", true},
+		{sample.Num(2), api.Err{}, "", false},
+		{one, fault, "", false},
+		{one, api.Err{V: one}, "", false},
+		{api.Value{}, fault, "bad", true},
+		{api.Value{}, fault, "worse", false},
+		{one, fault, "bad", false},
+		{one, api.Err{}, "bad", false},
+	} {
+		if wrong := sample.Wrong(x.got, x.err, one, x.complaint); (wrong == "") != x.well {
+			t.Errorf("Wrong(%s, %v, %q): %s", value.Text(x.got), x.err.Is, x.complaint, wrong)
+		}
+	}
+}
+
+func TestMemory(t *testing.T) {
+	text := func(s string) any { return unsafe.StringData(s) }
+	v := sample.One(`{"key":["text",[1],[2]]}`)
+	own := sample.Apart(v)
+	if !sample.Same(own, v) || sample.Shared([]api.Value{own}, []api.Value{v}, text) != "" || !sample.Untouched(own) {
+		t.Error("Apart")
+	}
+	inner := v.List[0].List
+	for name, answer := range map[string][]api.Value{
+		"a list":           {v.List[0]},
+		"a text":           {inner[0]},
+		"a key":            {sample.Str(v.Keys[0])},
+		"a list's end":     {sample.Arr(inner[2:]...)},
+		"room behind":      {sample.Arr(inner[:0]...)},
+		"a list twice":     {own, own},
+		"a list within it": {own.List[0], sample.Arr(own.List[0].List[1:]...)},
+	} {
+		if sample.Shared(answer, []api.Value{v}, text) == "" {
+			t.Error("Shared does not tell of", name)
+		}
+	}
+	again := sample.Str(own.List[0].List[0].Str)
+	if sample.Shared([]api.Value{again, again}, []api.Value{v}, text) != "" {
+		t.Error("Shared takes two texts amiss that stand in one place")
+	}
+	list := own.List[0].List[1].List
+	_ = append(list, sample.Num(3))
+	if sample.Untouched(own) {
+		t.Error("Untouched does not see what is put behind a list")
+	}
+	own = sample.Apart(v)
+	_ = append(own.Keys, "k")
+	if sample.Untouched(own) {
+		t.Error("Untouched does not see what is put behind keys")
+	}
+}
