@@ -2,11 +2,14 @@ package regex_test
 
 import (
 	"fmt"
-	"slices"
 	"strings"
 
 	"colander/api"
+	"colander/sample"
 )
+
+// What the tests of several packages have in common.
+var same, apart = sample.SamePat, sample.ApartPat
 
 // How the tests make trees.
 
@@ -83,23 +86,6 @@ var (
 	places   = []api.Pat{begin, end, start, stop, last, word, notWord}
 	greatest = 1114111
 )
-
-// same tells whether two trees are the same in all their fields; nil and empty lists are.
-func same(p, q api.Pat) bool {
-	return p.Kind == q.Kind && p.N == q.N && p.Text == q.Text && p.Not == q.Not && p.Back == q.Back && p.Min == q.Min && p.Max == q.Max && p.Mode == q.Mode &&
-		slices.Equal(p.Ranges, q.Ranges) && slices.EqualFunc(p.Sub, q.Sub, same)
-}
-
-// apart answers p in memory of its own.
-func apart(p api.Pat) api.Pat {
-	p.Text = strings.Clone(p.Text)
-	p.Ranges = slices.Clone(p.Ranges)
-	p.Sub = slices.Clone(p.Sub)
-	for i := range p.Sub {
-		p.Sub[i] = apart(p.Sub[i])
-	}
-	return p
-}
 
 // shown writes a tree for people: its nodes' kinds and what they have.
 func shown(p api.Pat) string {

@@ -111,3 +111,34 @@ func TestMemory(t *testing.T) {
 		t.Error("Untouched does not see what is put behind keys")
 	}
 }
+
+func TestPatterns(t *testing.T) {
+	chars := func(l ...int) []api.Pat {
+		var out []api.Pat
+		for _, n := range l {
+			out = append(out, api.Pat{Kind: api.XChar, N: n})
+		}
+		return out
+	}
+	all := []api.Pat{
+		{}, {Kind: api.XEmpty}, {Kind: api.XChar, N: 1}, {Kind: api.XChar, N: 2}, {Kind: api.XGroup, N: 1, Sub: chars(1)}, {Kind: api.XGroup, N: 1, Text: "x", Sub: chars(1)},
+		{Kind: api.XLook, Sub: chars(1)}, {Kind: api.XLook, Not: true, Sub: chars(1)}, {Kind: api.XLook, Back: true, Sub: chars(1)}, {Kind: api.XSeq, Sub: chars(1, 2)}, {Kind: api.XSeq, Sub: chars(2, 1)}, {Kind: api.XSeq, Sub: chars(1, 2, 1)},
+		{Kind: api.XRepeat, Max: 2, Sub: chars(1)}, {Kind: api.XRepeat, Min: 1, Max: 2, Sub: chars(1)}, {Kind: api.XRepeat, Max: 1, Sub: chars(1)}, {Kind: api.XRepeat, Max: 2, Mode: 1, Sub: chars(1)},
+		{Kind: api.XSet, Ranges: []api.Range{{From: 1, To: 2}}}, {Kind: api.XSet, Ranges: []api.Range{{From: 1, To: 3}}}, {Kind: api.XSet, Ranges: []api.Range{{From: 1, To: 2}, {From: 4, To: 5}}},
+	}
+	for i, p := range all {
+		for j, q := range all {
+			if sample.SamePat(p, sample.ApartPat(q)) != (i == j) {
+				t.Error(p, q)
+			}
+		}
+	}
+	if !sample.SamePat(api.Pat{Ranges: []api.Range{}}, api.Pat{Sub: []api.Pat{}}) {
+		t.Error("nil and empty lists are not the same")
+	}
+	p := api.Pat{Kind: api.XSeq, Sub: []api.Pat{{Kind: api.XBack, Text: "name"}, {Kind: api.XSet, Ranges: []api.Range{{From: 1, To: 2}}}}}
+	own := sample.ApartPat(p)
+	if &own.Sub[0] == &p.Sub[0] || &own.Sub[1].Ranges[0] == &p.Sub[1].Ranges[0] || unsafe.StringData(own.Sub[0].Text) == unsafe.StringData(p.Sub[0].Text) {
+		t.Error("ApartPat shares memory")
+	}
+}
