@@ -18,17 +18,9 @@ var num, str, arr, one = sample.Num, sample.Str, sample.Arr, sample.One
 // check tells what is wrong with what a call answers, and whether it shares memory with what was handed in, or has changed that.
 func check(t *testing.T, call string, answer func(args []api.Value) (api.Value, api.Err), args []api.Value, want api.Value, complaint string) {
 	t.Helper()
-	handed := sample.ApartRow(args)
-	got, err := answer(handed)
-	if wrong := sample.Wrong(got, err, want, complaint); wrong != "" {
-		t.Errorf("%s of %s %s", call, sample.Shown(args...), wrong)
-	}
 	text := func(text string) any { return unsafe.StringData(text) }
-	if wrong := sample.Shared([]api.Value{got, err.V}, handed, text); wrong != "" {
+	if wrong := sample.Amiss(answer, args, want, complaint, text); wrong != "" {
 		t.Errorf("%s of %s: %s", call, sample.Shown(args...), wrong)
-	}
-	if !sample.SameRow(handed, args) || !sample.Untouched(arr(handed...)) {
-		t.Errorf("%s of %s changes them to %s", call, sample.Shown(args...), sample.Shown(handed...))
 	}
 }
 

@@ -56,6 +56,22 @@ func Wrong(got api.Value, err api.Err, want api.Value, complaint string) string 
 	return "answers " + Shown(got) + " and " + Shown(err.V) + ", want " + Shown(want) + " and " + Shown(fault.V)
 }
 
+// Amiss tells what is amiss with a call: that it answers something else than a value or, where complaint is not empty, the error that has this text; that what it answers shares memory with what was handed in; or that it changes that. Text tells where a text's bytes are.
+func Amiss(call func(args []api.Value) (api.Value, api.Err), args []api.Value, want api.Value, complaint string, text func(string) any) string {
+	handed := ApartRow(args)
+	got, err := call(handed)
+	if wrong := Wrong(got, err, want, complaint); wrong != "" {
+		return wrong
+	}
+	if wrong := Shared([]api.Value{got, err.V}, handed, text); wrong != "" {
+		return wrong
+	}
+	if !SameRow(handed, args) || !Untouched(Arr(handed...)) {
+		return "what was handed in is changed to " + Shown(handed...)
+	}
+	return ""
+}
+
 // Apart answers v in memory of its own, each list with room behind its end.
 func Apart(v api.Value) api.Value {
 	v.Str = strings.Clone(v.Str)

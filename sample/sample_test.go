@@ -75,6 +75,34 @@ func TestWrong(t *testing.T) {
 	}
 }
 
+func TestAmiss(t *testing.T) {
+	text := func(s string) any { return unsafe.StringData(s) }
+	args := sample.All(`{"a":["b"]} "c"`)
+	one, fault := sample.Num(1), api.Err{Is: true, V: sample.Str("bad")}
+	for name, call := range map[string]func(args []api.Value) (api.Value, api.Err){
+		"another value":       func([]api.Value) (api.Value, api.Err) { return sample.Num(2), api.Err{} },
+		"an error":            func([]api.Value) (api.Value, api.Err) { return api.Value{}, fault },
+		"a changed text":      func(l []api.Value) (api.Value, api.Err) { l[1] = sample.Str("d"); return one, api.Err{} },
+		"a changed list":      func(l []api.Value) (api.Value, api.Err) { l[0].List[0].List[0] = one; return one, api.Err{} },
+		"room that is filled": func(l []api.Value) (api.Value, api.Err) { _ = append(l[0].List, one); return one, api.Err{} },
+	} {
+		if sample.Amiss(call, args, one, "", text) == "" {
+			t.Error("Amiss does not tell of", name)
+		}
+	}
+	same := func(l []api.Value) (api.Value, api.Err) { return l[0], api.Err{} }
+	if sample.Amiss(same, args, args[0], "", text) == "" || sample.Amiss(func(l []api.Value) (api.Value, api.Err) { return api.Value{}, api.Err{Is: true, V: l[1]} }, args, api.Value{}, "c", text) == "" {
+		t.Error("Amiss does not tell of memory that is shared")
+	}
+	own := func(l []api.Value) (api.Value, api.Err) { return sample.Apart(l[0]), api.Err{} }
+	if wrong := sample.Amiss(own, args, args[0], "", text); wrong != "" {
+		t.Error("Amiss of what is well:", wrong)
+	}
+	if wrong := sample.Amiss(func([]api.Value) (api.Value, api.Err) { return api.Value{}, fault }, args, one, "bad", text); wrong != "" {
+		t.Error("Amiss of an error that is well:", wrong)
+	}
+}
+
 func TestMemory(t *testing.T) {
 	text := func(s string) any { return unsafe.StringData(s) }
 	v := sample.One(`{"key":["text",[1],[2]]}`)
