@@ -12,6 +12,7 @@ import (
 
 	"colander/api"
 	"colander/reader"
+	"colander/sample"
 	"colander/value"
 )
 
@@ -163,7 +164,7 @@ func TestBlanksTurnSpotsAlone(t *testing.T) {
 		a, fa := reader.All(thin)
 		b, fb := reader.All(thick)
 		inString := fa.Code == api.ErrEnd && strings.Count(thin, `"`)%2 > 0
-		if !sameRow(a, b) || fa.Code != fb.Code || fa.Code != api.OK && !inString && fb.At != spotOf(thick, places[fa.At.Off]) {
+		if !sameRow(a, b) || fa.Code != fb.Code || fa.Code != api.OK && !inString && fb.At != sample.SpotOf(thick, places[fa.At.Off]) {
 			t.Fatalf("All(%q) = %s, %v; All(%q) = %s, %v", thin, shown(a...), fa, thick, shown(b...), fb)
 		}
 	}

@@ -103,22 +103,6 @@ func somewhat(r *rand.Rand, levels int) api.Value {
 	return null
 }
 
-// eachText gives all texts of at most n of the pieces.
-func eachText(pieces []string, n int, do func(string)) {
-	do("")
-	texts := []string{""}
-	for range n {
-		var longer []string
-		for _, t := range texts {
-			for _, p := range pieces {
-				longer = append(longer, t+p)
-				do(t + p)
-			}
-		}
-		texts = longer
-	}
-}
-
 // The tests' own model of what the chapter says: a machine with a stack of its own, whose strings and words are told by patterns.
 
 var (
@@ -128,21 +112,8 @@ var (
 	numbers      = regexp.MustCompile(`^[+-]?(?:[0-9]+\.?[0-9]*|\.[0-9]+)(?:[eE][+-]?[0-9]+)?$`)
 )
 
-// spotOf is P4.1's At.
-func spotOf(s string, off int) api.Spot {
-	out := api.Spot{Line: 1, Col: 1}
-	for out.Off < off && out.Off < len(s) {
-		out.Col++
-		if s[out.Off] == 10 {
-			out.Line, out.Col = out.Line+1, 1
-		}
-		out.Off++
-	}
-	return out
-}
-
 func faultAt(code api.Errno, s string, off int) api.Fault {
-	return api.Fault{Code: code, At: spotOf(s, off)}
+	return api.Fault{Code: code, At: sample.SpotOf(s, off)}
 }
 
 // blanksTo answers the byte behind the blanks from byte off on.

@@ -8,6 +8,7 @@ import (
 
 	"colander/api"
 	"colander/reader"
+	"colander/sample"
 )
 
 // P4.3
@@ -104,13 +105,13 @@ func TestWhatStandsBehind(t *testing.T) {
 
 // TestAllShortTexts reads all texts of a few parts.
 func TestAllShortTexts(t *testing.T) {
-	eachText([]string{"[", "]", "{", "}", ",", ":", " ", "\n", `"a"`, `"b"`, "1", "null", "nul", `"`, `\`, `\u00e9`, "\xff", mark}, 4, func(s string) {
+	sample.EachText([]string{"[", "]", "{", "}", ",", ":", " ", "\n", `"a"`, `"b"`, "1", "null", "nul", `"`, `\`, `\u00e9`, "\xff", mark}, 4, func(s string) {
 		checkText(t, s)
 	})
-	eachText([]string{"[", "]", "{", "}", ",", ":", `"a"`, "1"}, 6, func(s string) {
+	sample.EachText([]string{"[", "]", "{", "}", ",", ":", `"a"`, "1"}, 6, func(s string) {
 		checkText(t, s)
 	})
-	eachText([]string{"[", "}", " ", `"`, `\`, "u00e9", "1", "\n"}, 4, func(s string) {
+	sample.EachText([]string{"[", "}", " ", `"`, `\`, "u00e9", "1", "\n"}, 4, func(s string) {
 		checkPlaces(t, s)
 	})
 }

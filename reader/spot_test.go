@@ -7,6 +7,7 @@ import (
 
 	"colander/api"
 	"colander/reader"
+	"colander/sample"
 )
 
 // P4.1
@@ -53,9 +54,9 @@ func TestAtByHand(t *testing.T) {
 }
 
 func TestAtOfShortTexts(t *testing.T) {
-	eachText([]string{"\n", "\r", "a", "\u00e9", "\xff"}, 5, func(s string) {
+	sample.EachText([]string{"\n", "\r", "a", "\u00e9", "\xff"}, 5, func(s string) {
 		for off := -2; off <= len(s)+2; off++ {
-			if got, want := reader.At(s, off), spotOf(s, off); got != want {
+			if got, want := reader.At(s, off), sample.SpotOf(s, off); got != want {
 				t.Fatalf("At(%q, %d) = %v, want %v", s, off, got, want)
 			}
 		}
@@ -66,7 +67,7 @@ func TestAtOfShortTexts(t *testing.T) {
 func TestAtOfLongTexts(t *testing.T) {
 	s := strings.Repeat("abc\n", 600000)
 	for _, off := range []int{0, 3, 4, 1048576, 1048577, 2399999, 2400000, 2400001} {
-		if got, want := reader.At(s, off), spotOf(s, off); got != want {
+		if got, want := reader.At(s, off), sample.SpotOf(s, off); got != want {
 			t.Errorf("At of byte %d = %v, want %v", off, got, want)
 		}
 	}

@@ -7,6 +7,7 @@ import (
 
 	"colander/api"
 	"colander/reader"
+	"colander/sample"
 )
 
 // P4.2
@@ -291,7 +292,7 @@ func TestWhatStandsInStrings(t *testing.T) {
 
 // TestBadBytesEverywhere puts odd bytes and escapes side by side.
 func TestBadBytesEverywhere(t *testing.T) {
-	eachText([]string{"a", "\xc3", "\xa9", "\xe2\x82", "\xac", `\u00e9`, `\ud83d`, `\ude00`, `\n`, "\xff"}, 4, func(s string) {
+	sample.EachText([]string{"a", "\xc3", "\xa9", "\xe2\x82", "\xac", `\u00e9`, `\ud83d`, `\ude00`, `\n`, "\xff"}, 4, func(s string) {
 		checkText(t, `"`+s+`"`)
 	})
 }

@@ -1,5 +1,7 @@
 package runes_test
 
+import "colander/sample"
+
 // The tests' own model of what the document says, made without the library's UTF-8.
 
 // pieceAt answers how many bytes the piece at byte i has, its code point, and whether it is one.
@@ -102,23 +104,7 @@ func edgeBytes() []byte {
 	}
 }
 
-// eachText gives all texts of at most n of the pieces.
-func eachText(pieces []string, n int, do func(string)) {
-	do("")
-	texts := []string{""}
-	for range n {
-		var longer []string
-		for _, t := range texts {
-			for _, p := range pieces {
-				longer = append(longer, t+p)
-				do(t + p)
-			}
-		}
-		texts = longer
-	}
-}
-
 // oddTexts are texts of few pieces, whole and broken ones among them.
 func oddTexts(do func(string)) {
-	eachText([]string{"a", "b", "\xc3\xa9", "\xa9", "\xc3", "\xef\xbf\xbd", "\xe2\x82", "\xf0\x9f\x98\x80"}, 4, do)
+	sample.EachText([]string{"a", "b", "\xc3\xa9", "\xa9", "\xc3", "\xef\xbf\xbd", "\xe2\x82", "\xf0\x9f\x98\x80"}, 4, do)
 }

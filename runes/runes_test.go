@@ -9,6 +9,7 @@ import (
 
 	"colander/api"
 	"colander/runes"
+	"colander/sample"
 )
 
 // P1.1
@@ -86,7 +87,7 @@ func TestPiecesOfEdgeBytes(t *testing.T) {
 	for _, b := range edgeBytes() {
 		edges = append(edges, string([]byte{b}))
 	}
-	eachText(edges, 4, func(s string) { checkPieces(t, s) })
+	sample.EachText(edges, 4, func(s string) { checkPieces(t, s) })
 }
 
 func TestPiecesOfAllPairs(t *testing.T) {

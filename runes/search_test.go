@@ -6,6 +6,7 @@ import (
 	"testing"
 
 	"colander/runes"
+	"colander/sample"
 )
 
 // P1.3
@@ -94,8 +95,8 @@ func TestFindAndSplitOfOddTexts(t *testing.T) {
 // TestSearchOfTwoLetters holds texts that repeat themselves in all ways against the model.
 func TestSearchOfTwoLetters(t *testing.T) {
 	var parts []string
-	eachText([]string{"a", "b"}, 6, func(s string) { parts = append(parts, s) })
-	eachText([]string{"a", "b"}, 10, func(s string) {
+	sample.EachText([]string{"a", "b"}, 6, func(s string) { parts = append(parts, s) })
+	sample.EachText([]string{"a", "b"}, 10, func(s string) {
 		for _, part := range parts {
 			if got, want := runes.Find(s, part), findIn(s, part); !slices.Equal(got, want) {
 				t.Fatalf("Find(%q, %q) = %v, want %v", s, part, got, want)

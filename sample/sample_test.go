@@ -2,6 +2,7 @@ package sample_test
 
 import (
 	"math"
+	"slices"
 	"testing"
 	"unsafe"
 
@@ -168,5 +169,18 @@ func TestPatterns(t *testing.T) {
 	own := sample.ApartPat(p)
 	if &own.Sub[0] == &p.Sub[0] || &own.Sub[1].Ranges[0] == &p.Sub[1].Ranges[0] || unsafe.StringData(own.Sub[0].Text) == unsafe.StringData(p.Sub[0].Text) {
 		t.Error("ApartPat shares memory")
+	}
+}
+
+func TestTexts(t *testing.T) {
+	var got []string
+	sample.EachText([]string{"a", "bc"}, 2, func(s string) { got = append(got, s) })
+	if want := []string{"", "a", "bc", "aa", "abc", "bca", "bcbc"}; !slices.Equal(got, want) {
+		t.Errorf("EachText gives %q, want %q", got, want)
+	}
+	for off, want := range []api.Spot{{Line: 1, Col: 1}, {Line: 1, Col: 2, Off: 1}, {Line: 2, Col: 1, Off: 2}, {Line: 2, Col: 2, Off: 3}, {Line: 2, Col: 2, Off: 3}} {
+		if got := sample.SpotOf("a\nb", off); got != want {
+			t.Errorf("SpotOf byte %d is %v, want %v", off, got, want)
+		}
 	}
 }
